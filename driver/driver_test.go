@@ -8,6 +8,7 @@ import (
 	"testing"
 
 	"stickler/api"
+	"stickler/decoder"
 	"stickler/driver"
 	"stickler/monitor"
 	"stickler/preface"
@@ -80,12 +81,12 @@ func TestP47Open(t *testing.T) {
 
 func TestP47Frames(t *testing.T) {
 	fields := []api.Field{{Name: ":status", Value: "200"}, {Name: "a", Value: "b"}, {Name: "a", Value: "b", Never: true}, {Name: "cookie", Value: "c", Never: true}}
-	block := "\x08\x03200" + "\x00\x01a\x01b" + "\x10\x01a\x01b" + "\x1f\x11\x01c"
+	block := " " + "\x08\x03200" + "\x00\x01a\x01b" + "\x10\x01a\x01b" + "\x1f\x11\x01c"
 	for _, x := range []struct {
 		step spec.Step
 		want api.Raw
 	}{
-		{spec.Step{Kind: spec.Headers, Stream: 1}, raw(0, 1, 4, 1, "")},
+		{spec.Step{Kind: spec.Headers, Stream: 1}, raw(0, 1, 4, 1, " ")}, // the byte 32: the table's size is 0
 		{spec.Step{Kind: spec.Headers, Stream: most, End: true, Fields: fields}, raw(0, 1, 5, most, block)},
 		{spec.Step{Kind: spec.Data, Stream: 2}, raw(0, 0, 0, 2, "")},
 		{spec.Step{Kind: spec.Data, Stream: 1, N: 3, End: true}, raw(0, 0, 1, 1, "\x00\x00\x00")},
@@ -110,6 +111,41 @@ func TestP47Frames(t *testing.T) {
 		for _, side := range noSides() {
 			if l := driver.Frames(side, x.step); len(l) > 0 {
 				t.Error(side, x.step, l)
+			}
+		}
+	}
+}
+
+// TestP47FramesTellTheSize: whatever the fields, the size 0 stands ahead of them, so that they may come behind any bound of the table.
+func TestP47FramesTellTheSize(t *testing.T) {
+	asks := spec.Step{Kind: spec.Headers, Stream: 1, End: true, Fields: []api.Field{{Name: ":method", Value: "GET"}, {Name: ":scheme", Value: "http"}, {Name: ":path", Value: "/"}}}
+	answers := spec.Step{Kind: spec.Headers, Stream: 1, End: true, Fields: []api.Field{{Name: ":status", Value: "200"}}}
+	begun := slices.Concat(driver.Open(client), driver.Open(server), []api.Raw{acks(client), acks(server)})
+	for _, size := range []int{0, 1, 100, 4095} {
+		for side := range 2 {
+			smaller := driver.Frames(1-side, spec.Step{Kind: spec.Set, Settings: []api.Setting{{Id: api.SetTable, Value: size}}})
+			l, x := slices.Concat(begun, smaller, []api.Raw{acks(side)}), asks
+			if side == server {
+				l, x = slices.Concat(begun, driver.Frames(client, asks), smaller, []api.Raw{acks(side)}), answers
+			}
+			if more := driver.Frames(side, x); !driver.Allowed(conf(), l, more) {
+				t.Error(side, size, more)
+			}
+		}
+	}
+	for n := range 21 {
+		x := spec.Step{Kind: spec.Headers, Stream: 1}
+		for range n {
+			x.Fields = append(x.Fields, api.Field{Name: "a", Value: "b", Never: n%2 == 1})
+		}
+		for side := range 2 {
+			l := driver.Frames(side, x)
+			dec, _ := decoder.New(4096)
+			if len(l) != 1 {
+				t.Fatal(side, n, l)
+			}
+			if got, e := dec.Decode(l[0].Body); e != api.OK || !slices.Equal(got.Sizes, []int{0}) || !slices.Equal(got.Fields, x.Fields) || dec.Max() != 0 {
+				t.Error(side, n, got, e)
 			}
 		}
 	}

@@ -25,11 +25,12 @@ func raw(from, kind, flags, stream int, body string) api.Raw {
 
 func head(from, stream int) api.Raw { return raw(from, api.Headers, 4, stream, "x") }
 
+// get and ok have blocks as layer 47 writes them: ahead of the fields the byte 32 tells the size 0.
 func get(stream int) api.Raw {
-	return raw(client, api.Headers, 5, stream, "\x02\x03GET\x06\x04http\x04\x01/")
+	return raw(client, api.Headers, 5, stream, " \x02\x03GET\x06\x04http\x04\x01/")
 }
 
-func ok(stream int) api.Raw { return raw(server, api.Headers, 5, stream, "\x08\x03200") }
+func ok(stream int) api.Raw { return raw(server, api.Headers, 5, stream, " \x08\x03200") }
 
 func cut(from, stream int) api.Raw { return raw(from, api.Reset, 0, stream, "\x00\x00\x00\x08") }
 

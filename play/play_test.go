@@ -205,6 +205,23 @@ func TestP50Steps(t *testing.T) {
 	is(t, run(t, conf(), s, 0, 1, 2, 31), play.Result{Verdict: match.Passed, Frames: all(l, peer.React(server, 1, 31)), At: len(l) - 1, Faults: []api.Fault{conn(6)}, Got: conn(6), Told: true})
 }
 
+// TestP50SmallerTable: the peer's blocks tell the size 0 first, so that they keep within a table that the driver has made smaller.
+func TestP50SmallerTable(t *testing.T) {
+	for _, size := range []int{0, 100} {
+		set := spec.Step{Kind: spec.Set, Settings: []api.Setting{{Id: api.SetTable, Value: size}}}
+		for _, s := range []spec.Scenario{of(client, "ping7", 1, set, get(1, true)), of(server, "ping7", 1, wait(1), set, wait(1))} {
+			r := run(t, conf(), s, 1, 1, 1, 2, 31)
+			if s.Side == client {
+				r = run(t, conf(), s, 1, 1, 2, 31)
+			}
+			block := slices.ContainsFunc(r.Frames, func(x api.Raw) bool { return x.From == 1-s.Side && x.Type == api.Headers })
+			if r.Verdict != match.Passed || len(r.Skipped) > 0 || !block {
+				t.Error(size, s, r)
+			}
+		}
+	}
+}
+
 func TestP50Skipped(t *testing.T) {
 	c := conf()
 	c.Queue = 1
